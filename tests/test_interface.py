@@ -20,8 +20,27 @@ FUNCTIONS = {
         "read_short": ["value", "base", "behind", "bits"],
         "play_numbers": ["bits", "window", "acts"], "fooling": ["bits"],
     },
+    "covers": {
+        "row_of": ["key", "bearer", "way", "count", "size"], "mark_of": ["key", "bearer", "way", "count"],
+        "cover": ["key", "bearer", "way", "count", "packet"], "uncover": ["key", "bearer", "way", "count", "covered"],
+    },
 }
-CLASSES = {"errors": ["BearerError", "NotValid", "Broken"]}
+ERRORS = ["BearerError", "NotValid", "Broken"]
+# Each class with the arguments of its objects, the fields and the methods with theirs.
+CLASSES = {
+    "sender": {"Sender": (["bits", "window"], ["bits", "window", "low", "next"], {
+        "put": ["packet"], "send": ["room"], "has_piece": ["room"], "take_status": ["upto", "missing"],
+        "tick": [], "unconfirmed": [], "waiting": [], "is_idle": [],
+    })},
+    "receiver": {"Receiver": (["bits"], ["bits", "low"], {
+        "take": ["piece"], "is_due": [], "report": ["most"], "status": ["room"], "kept": [],
+    })},
+    "links": {"Link": (["bits", "window"], ["sender", "receiver"], {
+        "put": ["packet"], "send": ["room"], "has_something": ["room"], "take": ["piece"], "confirmed": [],
+        "tick": [], "is_idle": [],
+    })},
+}
+CONSTANTS = {"segments": {"MOST_BYTES": 200, "MOST_MISSING": 8}, "sender": {"PATIENCE": 4}}
 
 
 def module_of(name):
@@ -37,12 +56,30 @@ class InterfaceTest(unittest.TestCase):
                 self.assertEqual(function.__module__, "bearerwise." + name)
                 self.assertEqual(list(inspect.signature(function).parameters), arguments, msg=word)
 
-    def test_each_class_stands_in_its_file(self):
-        for name, words in CLASSES.items():
-            for word in words:
+    def test_each_error_stands_in_its_file(self):
+        for word in ERRORS:
+            kind = getattr(module_of("errors"), word)
+            self.assertTrue(inspect.isclass(kind), msg=word)
+            self.assertEqual(kind.__module__, "bearerwise.errors")
+
+    def test_each_class_stands_in_its_file_with_its_own_methods(self):
+        for name, classes in CLASSES.items():
+            for word, (arguments, fields, methods) in classes.items():
                 kind = getattr(module_of(name), word)
                 self.assertTrue(inspect.isclass(kind), msg=word)
                 self.assertEqual(kind.__module__, "bearerwise." + name)
+                self.assertEqual(list(inspect.signature(kind).parameters), arguments, msg=word)
+                made = kind(*[{"bits": 4, "window": 8}[argument] for argument in arguments])
+                for field in fields:
+                    self.assertIn(field, vars(made), msg=word)
+                for method, told in methods.items():
+                    self.assertIn(method, vars(kind), msg=word)
+                    self.assertEqual(list(inspect.signature(getattr(made, method)).parameters), told, msg=method)
+
+    def test_the_constants(self):
+        for name, constants in CONSTANTS.items():
+            for word, value in constants.items():
+                self.assertEqual(vars(module_of(name))[word], value, msg=word)
 
 
 if __name__ == "__main__":
