@@ -180,6 +180,12 @@ class TakeTest(unittest.TestCase):
                 receiver.take(data_piece(bits, False, number, BEGINNING, 0, [1]))
             self.assertEqual(receiver.kept(), list(range(half)))
 
+    def test_nothing_is_left_of_packets_below_the_low_end(self):
+        receiver = taking(3, [segment(3, number, [number, 1], at, at + 1) for number in range(50) for at in (1, 0)])
+        self.assertEqual(receiver.low, 50)
+        held = [value for value in vars(receiver).values() if isinstance(value, (list, dict))]
+        self.assertEqual([len(value) for value in held], [0] * len(held))
+
     def test_the_numbers_that_are_kept_ascend(self):
         receiver = taking(5, [data_piece(5, False, number, BEGINNING, 0, [1]) for number in (7, 2, 9, 0, 5)])
         self.assertEqual(receiver.kept(), [0, 2, 5, 7, 9])

@@ -178,6 +178,15 @@ class NumbersTest(unittest.TestCase):
         self.assertEqual(most, 8)
         self.assertEqual((sender.unconfirmed(), sender.waiting(), sender.low, sender.next), ([], [], 30, 30))
 
+    def test_nothing_is_left_of_packets_that_are_confirmed(self):
+        sender = Sender(3, 4)
+        for number in range(50):
+            sender.put([number, 1])
+            drained(sender, 4)
+            sender.take_status((number + 1) % 8, [])
+        held = [value for value in vars(sender).values() if isinstance(value, (list, dict))]
+        self.assertEqual([len(value) for value in held], [0] * len(held))
+
 
 class SendTest(unittest.TestCase):
     def test_the_example(self):
