@@ -1,19 +1,12 @@
 """The sender of a link (points [12] to [16])."""
 
-from bearerwise.checks import check_bits, is_between
+from bearerwise.checks import check_bits, is_between, is_packet
 from bearerwise.errors import NotValid
 from bearerwise.ranges import true_rows
 from bearerwise.segments import MOST_BYTES, cut
 from bearerwise.windows import read_short, window_size
 
 PATIENCE = 4
-
-
-def _is_packet(packet):
-    """Return whether a value is a packet that a sender takes."""
-    if not isinstance(packet, list) or not is_between(len(packet), 1, MOST_BYTES):
-        return False
-    return all([is_between(one, 0, 255) for one in packet])
 
 
 def _rows_told(ranges, size):
@@ -48,7 +41,7 @@ class Sender:
 
     def put(self, packet):
         """Take a packet."""
-        if not _is_packet(packet):
+        if not is_packet(packet, MOST_BYTES):
             raise NotValid()
         self._waiting.append(list(packet))
 

@@ -24,6 +24,13 @@ FUNCTIONS = {
         "row_of": ["key", "bearer", "way", "count", "size"], "mark_of": ["key", "bearer", "way", "count"],
         "cover": ["key", "bearer", "way", "count", "packet"], "uncover": ["key", "bearer", "way", "count", "covered"],
     },
+    "counts": {
+        "short_of": ["count", "bits"], "count_near": ["expected", "short", "bits"],
+        "count_from": ["first", "short", "bits"], "window": ["bits"],
+    },
+    "shares": {
+        "least_units": ["promise", "units", "n"], "most_units": ["promise", "free", "units", "n"],
+    },
 }
 ERRORS = ["BearerError", "NotValid", "Broken"]
 # Each class with the arguments of its objects, the fields and the methods with theirs.
@@ -39,8 +46,33 @@ CLASSES = {
         "put": ["packet"], "send": ["room"], "has_something": ["room"], "take": ["piece"], "confirmed": [],
         "tick": [], "is_idle": [],
     })},
+    "upper": {
+        "UpperSender": (["bits"], [], {
+            "may_add": [], "add": ["packet"], "next_count": [], "base": [], "unconfirmed": [], "confirm": ["count"],
+            "take_report": ["first", "later"],
+        }),
+        "UpperReceiver": (["bits"], [], {
+            "first_missing": [], "take": ["short", "packet"], "take_count": ["count", "packet"], "report": [],
+            "held": [],
+        }),
+    },
+    "shares": {"Shares": (["promises", "weights", "units"], [], {
+        "give": ["waiting"], "balances": [], "given": [], "place": [],
+    })},
+    "bills": {
+        "Meter": ([], [], {
+            "add": ["bearer", "way", "size"], "metered": ["bearer", "way"], "write": [], "last": [],
+            "take": ["serial"], "is_settled": [],
+        }),
+        "Biller": ([], [], {"take": ["letter"], "bill": ["bearer", "way"]}),
+    },
 }
-CONSTANTS = {"segments": {"MOST_BYTES": 200, "MOST_MISSING": 8}, "sender": {"PATIENCE": 4}}
+CONSTANTS = {
+    "segments": {"MOST_BYTES": 200, "MOST_MISSING": 8}, "sender": {"PATIENCE": 4},
+    "counts": {"MIN_BITS": 4, "MAX_BITS": 7},
+}
+# An argument of each name, with which objects are made.
+ARGUMENTS = {"bits": 4, "window": 8, "promises": [1], "weights": [1], "units": 8}
 
 
 def module_of(name):
@@ -65,11 +97,11 @@ class InterfaceTest(unittest.TestCase):
     def test_each_class_stands_in_its_file_with_its_own_methods(self):
         for name, classes in CLASSES.items():
             for word, (arguments, fields, methods) in classes.items():
-                kind = getattr(module_of(name), word)
+                kind = vars(module_of(name))[word]
                 self.assertTrue(inspect.isclass(kind), msg=word)
                 self.assertEqual(kind.__module__, "bearerwise." + name)
                 self.assertEqual(list(inspect.signature(kind).parameters), arguments, msg=word)
-                made = kind(*[{"bits": 4, "window": 8}[argument] for argument in arguments])
+                made = kind(*[ARGUMENTS[argument] for argument in arguments])
                 for field in fields:
                     self.assertIn(field, vars(made), msg=word)
                 for method, told in methods.items():
