@@ -4,6 +4,8 @@ import importlib
 import inspect
 import unittest
 
+from bearerwise.shares import Shares
+
 FUNCTIONS = {
     "fields": {
         "field_bytes": ["widths"], "pack": ["widths", "values"], "unpack": ["widths", "data"],
@@ -30,6 +32,10 @@ FUNCTIONS = {
     },
     "shares": {
         "least_units": ["promise", "units", "n"], "most_units": ["promise", "free", "units", "n"],
+    },
+    "judge": {
+        "first_fault": ["went_in", "came_out", "bound", "quiet"],
+        "bill_fault": ["packets", "metered", "billed", "is_settled"],
     },
 }
 ERRORS = ["BearerError", "NotValid", "Broken"]
@@ -66,13 +72,35 @@ CLASSES = {
         }),
         "Biller": ([], [], {"take": ["letter"], "bill": ["bearer", "way"]}),
     },
+    "cells": {
+        "End": (["stay", "way", "link_bits", "count_bits", "shares"], [], {
+            "add": ["bearer", "count", "packet"], "send": ["room"], "take": ["piece", "expected"], "confirmed": [],
+            "tick": [], "is_idle": [],
+        }),
+        "Row": ([], [], {"send": ["letter"], "waiting": [], "arrive": []}),
+        "CellEnd": (["end", "told"], ["end"], {"take_letter": ["letter"], "take_piece": ["piece"], "expected": []}),
+        "Anchor": (["bearers", "count_bits"], ["meter"], {
+            "put": ["bearer", "packet"], "begin_stay": ["told"], "take_letter": ["letter", "stay"], "out": ["bearer"],
+            "unconfirmed": ["bearer"],
+        }),
+    },
+    "air": {"Air": ([], [], {
+        "send": ["piece"], "arrive": [], "lose": [], "double": [], "pieces": [], "stop": [],
+    })},
+    "world": {"World": (["bearers", "link_bits", "count_bits"], [], {
+        "play": ["acts"], "settle": ["rounds"], "went_in": ["way", "bearer"], "came_out": ["way", "bearer"],
+        "stay": [], "bill": ["way", "bearer"], "metered": ["way", "bearer"],
+    })},
 }
 CONSTANTS = {
     "segments": {"MOST_BYTES": 200, "MOST_MISSING": 8}, "sender": {"PATIENCE": 4},
-    "counts": {"MIN_BITS": 4, "MAX_BITS": 7},
+    "counts": {"MIN_BITS": 4, "MAX_BITS": 7}, "cells": {"MOST_BYTES": 196},
 }
 # An argument of each name, with which objects are made.
-ARGUMENTS = {"bits": 4, "window": 8, "promises": [1], "weights": [1], "units": 8}
+ARGUMENTS = {
+    "bits": 4, "window": 8, "promises": [1], "weights": [1], "units": 8, "stay": 0, "way": 0, "link_bits": 4,
+    "count_bits": 4, "shares": Shares([1], [1], 8), "end": None, "told": [(0, [])], "bearers": 1,
+}
 
 
 def module_of(name):
